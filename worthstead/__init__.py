@@ -1,0 +1,1 @@
+"""Worthstead: formulas, plans and exact fits."""

@@ -1,0 +1,1 @@
+"""Exact ratios, rows of ratios, and spaces of rows."""

@@ -1,0 +1,1 @@
+"""Formulas, and what tables can tell about them."""

@@ -1,0 +1,1 @@
+"""Tables of factors and numbers."""
