@@ -3,13 +3,12 @@
 # Each prime is 2 ** power - 1. One that divides a number that matters is of no use there; then the next one is taken.
 POWERS = (127, 521, 1279, 2203, 2281, 3217, 4253, 4423, 9689, 9941, 11213, 19937)
 USUAL = 521
-MOST_AT_ONCE = 1279
 
 
 def primes_above(bits):
-    """The primes to take one after the other, the first one of more bits than told if it is of a handy size."""
-    handy = [power for power in POWERS if bits < power <= MOST_AT_ONCE]
-    first = handy[0] if handy else USUAL
+    """The primes to take one after the other, the first one of more bits than told unless it would be long."""
+    enough = [power for power in POWERS if bits < power <= USUAL]
+    first = enough[0] if enough else USUAL
     return [(1 << power) - 1 for power in POWERS if power >= first]
 
 

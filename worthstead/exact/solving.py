@@ -71,6 +71,7 @@ def base_of_integers(rows, width):
         # What is no sum modulo a prime is none; that the others are sums must be shown if the prime can divide minors.
         if prime.bit_length() > bits or are_sums(rows, width, base, places):
             return base, places
+    # Only numbers that were put together from all the primes lead here.
     raise TooMany(MAX_DIGITS)
 
 
