@@ -18,7 +18,7 @@ from worthstead.exact.solving import (
 MAX_ROWS = 512
 MOST_LONG = 64
 ENTRY_DIGITS = 20
-ENTRY_BOUND = 10 ** ENTRY_DIGITS
+ENTRY_BOUND = 10 ** 20
 
 
 def is_row(value, width):

@@ -1,0 +1,106 @@
+"""The places, arguments and constants of the interface."""
+
+import importlib
+import inspect
+
+from tests.support import Case
+
+FUNCTIONS = {
+    "worthstead.exact.ratios": ["is_ratio(value)", "total(ratios)", "mean(ratios)"],
+    "worthstead.exact.rows": [
+        "is_rows(value)", "rank_of(rows)", "base_of(rows)", "sums_of(rows)", "summed(rows, wanted)",
+        "is_summed(rows, wanted, value)", "turned(rows)", "multiplied(rows, others)",
+    ],
+    "worthstead.tables.joining": ["joined(one, other, keys, *, way='pairs')", "grouped(table, keys, what)"],
+    "worthstead.tables.texts": ["write_table(table)", "read_table(text)"],
+    "worthstead.formulas.reader": ["read_formula(text)", "write_formula(formula)"],
+    "worthstead.formulas.shadows": [
+        "shadow_of(formula, kinds)", "is_alike(one, other, kinds)", "parted(one, other, kinds)",
+        "is_parted(one, other, kinds, value)", "plain(formula, kinds)", "met(one, other, kinds)",
+        "joint(one, other, kinds)",
+    ],
+    "worthstead.formulas.counts": ["count_of(formula, kinds)"],
+}
+CLASSES = {
+    "worthstead.exact.ratios.Ratio": (
+        "(top, bottom=1)",
+        "top bottom __add__ __sub__ __mul__ __neg__ __abs__ over is_less __eq__ __bool__ __str__ of_text",
+    ),
+    "worthstead.exact.spaces.Space": (
+        "(width, rows)",
+        "width rows __iter__ __len__ __contains__ __eq__ __add__ __and__ part rest behind is_within is_square_to "
+        "whole ones",
+    ),
+    "worthstead.tables.columns.Factor": ("(levels, codes)", "of_names levels codes kind __len__ __eq__"),
+    "worthstead.tables.columns.Numbers": ("(ratios)", "ratios kind __len__ __eq__"),
+    "worthstead.tables.tables.Table": (
+        "(columns, *, total=None)",
+        "columns names total kinds __getitem__ __contains__ __len__ __eq__ __str__ worths picked shown with_column "
+        "bound ordered cells complete",
+    ),
+    "worthstead.formulas.formulas.Formula": (
+        "(terms, *, response=None)",
+        "terms response names __add__ __sub__ with_term without __contains__ __len__ __iter__ __eq__ __str__",
+    ),
+    "worthstead.formulas.counts.Count": ("(terms)", "terms __add__ __sub__ __call__ __eq__ __str__"),
+}
+METHODS = {
+    "worthstead.exact.ratios.Ratio": ["of_text(text)", "over(self, other)", "is_less(self, other)"],
+    "worthstead.exact.spaces.Space": [
+        "part(self, row)", "rest(self, row)", "behind(self, other)", "is_within(self, other)",
+        "is_square_to(self, other)", "whole(width)", "ones(width)",
+    ],
+    "worthstead.tables.columns.Factor": ["of_names(levels, texts)"],
+    "worthstead.tables.tables.Table": [
+        "worths(self, index)", "picked(self, indices)", "shown(self, names)", "with_column(self, name, column)",
+        "bound(self, other)", "ordered(self, names, *, down=())", "cells(self, names, *, full=False)",
+        "complete(self, names)",
+    ],
+    "worthstead.formulas.formulas.Formula": ["with_term(self, term)", "without(self, term)"],
+    "worthstead.formulas.counts.Count": ["__call__(self, levels)"],
+}
+CONSTANTS = {
+    "worthstead.exact.ratios": {"MAX_FIGURES": 60, "MAX_DIGITS": 2000},
+    "worthstead.exact.rows": {"MAX_ROWS": 512, "MOST_LONG": 64, "ENTRY_DIGITS": 20},
+    "worthstead.exact.spaces": {"MAX_WIDTH": 64},
+    "worthstead.tables.columns": {"MAX_ROWS": 200, "MAX_LEVELS": 12},
+    "worthstead.tables.tables": {"MAX_COLUMNS": 12, "MAX_CELLS": 4096},
+    "worthstead.tables.joining": {
+        "WAYS": ("all", "left", "pairs", "right"), "WORDS": ("count", "greatest", "least", "mean", "sum"),
+    },
+    "worthstead.formulas.formulas": {"MAX_NAMES": 9, "MAX_TERMS": 200},
+}
+
+
+def found(path):
+    module, _, name = path.rpartition(".")
+    return getattr(importlib.import_module(module), name)
+
+
+class InterfaceTest(Case):
+    def test_functions(self):
+        for module, signatures in FUNCTIONS.items():
+            for signature in signatures:
+                name = signature.partition("(")[0]
+                function = found(f"{module}.{name}")
+                self.assertEqual(function.__module__, module)
+                self.assertEqual(name + str(inspect.signature(function)), signature)
+
+    def test_classes(self):
+        for path, (signature, names) in CLASSES.items():
+            one = found(path)
+            self.assertEqual(one.__module__, path.rpartition(".")[0])
+            self.assertEqual(str(inspect.signature(one)), signature)
+            for name in names.split():
+                self.assertIn(name, vars(one), path)
+
+    def test_methods(self):
+        for path, signatures in METHODS.items():
+            for signature in signatures:
+                name = signature.partition("(")[0]
+                self.assertEqual(name + str(inspect.signature(getattr(found(path), name))), signature)
+
+    def test_constants(self):
+        for module, worths in CONSTANTS.items():
+            for name, worth in worths.items():
+                self.assertEqual(found(f"{module}.{name}"), worth)
