@@ -98,6 +98,9 @@ class JoinedTest(Case):
         self.assertEqual(len(joined(one.shown(one.names[:-1]), other, ("k",)).names), 12)
         more = Table({"n1": Numbers((Ratio(1),))} | numbers(4, "m") | {"k": Numbers((Ratio(1),))})
         self.raises(InvalidTable, joined, one, more, ("k",))
+        long = [Table({name: Numbers((Ratio(1),) * 20) for name in one_or_other.names}) for one_or_other in (one, other)]
+        self.too_many(12, joined, long[0], long[1], ("k",))
+        self.too_many(200, joined, long[0].shown(("k",)), long[1], ("k",))
 
     def test_two_hundred_rows(self):
         one = Table({"k": Numbers((Ratio(1),) * 20 + (None,))})

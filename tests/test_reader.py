@@ -183,6 +183,8 @@ class ErrorsTest(Case):
         self.parse(20, read_formula, "(" * 21)
         self.parse(20, read_formula, "(" * 10000)
         self.parse(20, read_formula, "(" * 20)
+        self.parse(6 + 20, read_formula, "(a) + " + "(" * 21 + "a" + ")" * 21)
+        self.parse(8 + 20, read_formula, "((a)) + " + "(" * 21 + "a" + ")" * 21)
         self.parse(4 + 21, read_formula, "a + (" + "(" * 19 + " (" + "a")
 
     def test_the_response(self):

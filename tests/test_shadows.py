@@ -181,6 +181,8 @@ class PartedTest(Case):
         self.assertIs(is_parted(one, other, KINDS, ("parted", "one", ((), ("b",)), rows * 2, (5, -5, -5, 5))), False)
         self.assertIs(is_parted(one, other, KINDS, ("parted", "one", ((), ("b",)), rows * 256, (1, -1) * 256)), True)
         self.assertIs(is_parted(one, other, KINDS, ("parted", "one", ((), ("b",)), rows * 257, (1, -1) * 257)), False)
+        self.assertIs(is_parted(one, other, KINDS, ("parted", "one", ((), ("b",)), rows * 256 + rows[:1], (1, -1) * 256 + (0,))), False)
+        self.assertIs(is_parted(one, other, KINDS, ("parted", "one", ((), ("b",)), rows * 255 + rows[:1], (1, -1) * 255 + (0,))), True)
         both = read_formula("a*b")
         square = tuple({"a": a, "b": b} for a in (0, 1) for b in (0, 1))
         self.assertIs(is_parted(both, one, KINDS, ("parted", "one", ((), ("a", "b")), square, (3, -3, -3, 3))), True)

@@ -264,6 +264,11 @@ class OrderedTest(Case):
         self.assertEqual(self.order(table, ("a", "y"), ("a",)), [2, 0, 5, 1, 3, 4])
         self.assertEqual(self.order(table, ("a", "y"), ("y", "a")), [0, 2, 5, 1, 3, 4])
 
+    def test_one_value_alone(self):
+        self.assertEqual(self.order(Table({"y": Numbers((None, Ratio(3), None))}), ("y",)), [1, 0, 2])
+        self.assertEqual(self.order(Table({"a": Factor(LEVELS, (None, 2))}), ("a",), ("a",)), [1, 0])
+        self.assertEqual(self.order(Table({"y": Numbers((None, None))}), ("y",)), [0, 1])
+
     def test_the_table_stays(self):
         table = Table({"y": Numbers(row("2 1"))})
         self.assertEqual(table.ordered(("y",)).total, 2)
