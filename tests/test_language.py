@@ -178,7 +178,7 @@ class LanguageTest(unittest.TestCase):
     def test_statements(self):
         barred = (
             ast.Global, ast.AsyncFunctionDef, ast.Lambda, ast.Try, ast.With, ast.Yield, ast.YieldFrom, ast.Match,
-            ast.AnnAssign, ast.Starred, ast.NamedExpr, ast.Div, ast.MatMult, ast.Await,
+            ast.AnnAssign, ast.NamedExpr, ast.Div, ast.MatMult, ast.Await,
         )
         for spot, node in self.each(*barred):
             self.fail(f"{spot}: {node}")
@@ -211,6 +211,7 @@ class LanguageTest(unittest.TestCase):
         for spot, node in self.each(ast.Call):
             if isinstance(node.func, ast.Attribute):
                 self.assertIn(node.func.attr, METHODS | methods, spot)
+            self.assertFalse([one for one in node.args if isinstance(one, ast.Starred)], spot)
             names = [keyword.arg for keyword in node.keywords]
             self.assertNotIn(None, names, spot)
             if isinstance(node.func, ast.Name) and node.func.id in dir(builtins):

@@ -104,8 +104,8 @@ def count_text(terms):
     ordered = [names for _, names in sorted([(-len(names), names) for names in terms])]
     texts = [signed_text(names, terms[names]) for names in ordered]
     first = texts[0]
-    start = first[2:] if first[0] == "+" else "-" + first[2:]
-    return " ".join([start] + texts[1:])
+    start = first[2:] if first[0] == "+" else f"-{first[2:]}"
+    return " ".join([start, *texts[1:]])
 
 
 def signed_text(names, many):
@@ -113,5 +113,5 @@ def signed_text(names, many):
     sign = "-" if many < 0 else "+"
     words = list(names)
     if abs(many) != 1 or not names:
-        words = [str(abs(many))] + words
+        words = [str(abs(many)), *words]
     return f"{sign} {'*'.join(words)}"

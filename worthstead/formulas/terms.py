@@ -19,6 +19,6 @@ def formula_text(terms, response):
     """The text of a formula with these terms, in their order, and this response."""
     texts = [":".join(term) for term in terms if term]
     if () not in terms:
-        texts = ["0"] + texts
+        texts = ["0", *texts]
     right = " + ".join(texts) if texts else "1"
     return right if response is None else f"{response} ~ {right}"

@@ -172,7 +172,8 @@ def check_factors(table, names):
 def kinds_text(columns):
     """What the text of a table tells of its columns."""
     words = [f"{name} {columns[name].kind}" for name in columns]
-    return ": " + ", ".join(words) if words else ""
+    text = ", ".join(words)
+    return f": {text}" if words else ""
 
 
 def with_rows(table, indices):
