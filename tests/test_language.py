@@ -228,7 +228,7 @@ class LanguageTest(unittest.TestCase):
                     above = parents[node]
                     looped = isinstance(above, (ast.For, ast.comprehension)) and above.iter is node
                     kept = isinstance(above, ast.Assign) and node.func.id == "range"
-                    measured = isinstance(above, ast.Call) and node.func.id == "range" and above.func.id == "len"
+                    measured = isinstance(above, ast.Call) and node.func.id == "range" and above.func.id in ("len", "list")
                     self.assertTrue(looped or kept or measured, f"{name}:{node.lineno}")
 
     def test_sets(self):

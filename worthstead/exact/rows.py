@@ -94,6 +94,11 @@ def summed(rows, wanted):
     check_rows(rows)
     check_wanted(rows, wanted)
     check_bounds([rows + (wanted,)])
+    return summed_freely(rows, wanted)
+
+
+def summed_freely(rows, wanted):
+    """The same for rows with entries of any length."""
     integers, bottoms = scaled_columns(rows + (wanted,), len(wanted))
     base, places = base_of_integers(integers, len(wanted))
     if len(rows) in base:
@@ -104,6 +109,12 @@ def summed(rows, wanted):
     for index, pair in zip(base, weights):
         found[index] = pair
     return "sum", ratios_of(found)
+
+
+def is_sum_of_rows(rows, wanted):
+    """Whether a row is a sum of rows, with entries of any length."""
+    integers = scaled_columns(rows + (wanted,), len(wanted))[0]
+    return len(rows) not in base_of_integers(integers, len(wanted))[0]
 
 
 def row_apart(square, places, bottoms):

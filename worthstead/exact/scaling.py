@@ -50,3 +50,9 @@ def ratios_of(pairs):
 def ratio_rows(rows):
     """The rows of ratios of rows of pairs."""
     return tuple([ratios_of(row) for row in rows])
+
+
+def led_row(row):
+    """The row of ratios that is a multiple of a row of integers, and whose first member other than 0 is 1."""
+    lead = [entry for entry in row if entry][0]
+    return ratios_of([(entry, lead) for entry in row])

@@ -85,9 +85,14 @@ def check_both(one, other, kinds):
     check_kinds([one, other], kinds)
 
 
+def is_kinds(value):
+    """Whether the value is a dict from names to kinds."""
+    return isinstance(value, dict) and all([is_name(name) and value[name] in KINDS for name in value])
+
+
 def check_kinds(formulas, kinds):
     """Raise an error unless kinds are told for all names of the terms of some formulas."""
-    if not isinstance(kinds, dict) or not all([is_name(name) and kinds[name] in KINDS for name in kinds]):
+    if not is_kinds(kinds):
         raise InvalidFormula("this is no dict from names to kinds")
     for name in names_of([formula.names for formula in formulas]):
         if name not in kinds:

@@ -1,0 +1,1 @@
+"""Exact fits, the orders of their terms, and strata."""

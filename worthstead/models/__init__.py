@@ -1,0 +1,1 @@
+"""Models, and what their rows tell."""

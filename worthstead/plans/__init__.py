@@ -1,0 +1,1 @@
+"""Words and plans over prime numbers of levels."""
