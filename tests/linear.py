@@ -4,6 +4,7 @@ from fractions import Fraction
 
 from tests.support import fraction
 from worthstead.exact.ratios import Ratio
+from worthstead.exact.spaces import Space
 
 
 def reduced(rows, width):
@@ -53,3 +54,45 @@ def random_rows(rng, many, width, most_rank, size, is_whole):
         weights = [rng.randint(-2, 2) if rng.random() < 0.9 else 0 for _ in lead]
         rows.append([sum((w * one[at] for w, one in zip(weights, lead)), Fraction(0)) for at in range(width)])
     return rows
+
+
+def product(one, other):
+    return sum((left * right for left, right in zip(one, other)), Fraction(0))
+
+
+def square(one):
+    return product(one, one)
+
+
+def orthogonal(vectors):
+    """Rows square to one another with the same sums as the vectors."""
+    found = []
+    for vector in vectors:
+        rest = less(vector, part(found, vector))
+        if any(rest):
+            found.append(rest)
+    return found
+
+
+def part(orthogonals, side):
+    """The part of a side in the space of rows that are square to one another."""
+    whole = [Fraction(0)] * len(side)
+    for one in orthogonals:
+        factor = product(one, side) / square(one)
+        whole = [left + factor * right for left, right in zip(whole, one)]
+    return whole
+
+
+def less(one, other):
+    return [left - right for left, right in zip(one, other)]
+
+
+def rests(vectors, others):
+    """Rows square to one another that span what the vectors add behind the others."""
+    behind = orthogonal(others)
+    return orthogonal([less(vector, part(behind, vector)) for vector in vectors])
+
+
+def as_space(vectors, width):
+    """The space of rows of fractions."""
+    return Space(width, as_ratios(reduced(vectors, width)[0]))

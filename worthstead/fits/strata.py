@@ -8,7 +8,7 @@ from worthstead.exact.solving import product_of
 from worthstead.fits.adding import added_places, is_in_own_part, own_rests, pairs_over, sums_along
 from worthstead.fits.fits import check_response, order_for
 from worthstead.fits.parting import bottom_for, is_in_stratum, labels_of, part_tops, stratum_of, stratum_space
-from worthstead.fits.sharing import first_joined, is_back_multiple, share_in
+from worthstead.fits.sharing import first_joined, is_back_multiple, odd_row, share_pair
 from worthstead.models.models import check_combination, check_model, check_term_of, integer_columns
 from worthstead.names import are_names
 from worthstead.tables.columns import FACTOR
@@ -112,9 +112,9 @@ class Strata:
         rests = [own_rests(self._model, columns, term) for term in terms]
         for term, rows in zip(terms, rests):
             for index, stratum in enumerate(self._strata):
-                found = share_by(stratum, rows) if rows else None
-                if found is not None and found[0] == "none":
-                    return "share", term, index, found[1]
+                odd = odd_row(rows, parts_in(stratum, rows)) if rows else None
+                if odd is not None:
+                    return "share", term, index, led_row(odd)
         for left, one in enumerate(terms):
             for right in range(left + 1, len(terms)):
                 found = joined_parts_of(self._strata, rests[left], rests[right])
@@ -175,17 +175,26 @@ def part_rows(model, stratum):
     ])
 
 
-def share_by(stratum, rows):
-    """The pair for a stratum and the rows that span an own part."""
+def parts_in(stratum, rows):
+    """The parts of rows of integers in a stratum, over the bottom for it."""
     below = bottom_for(stratum)
-    return share_in(rows, [part_tops(stratum, row, below) for row in rows], below)
+    return [part_tops(stratum, row, below) for row in rows]
+
+
+def share_by(stratum, rows):
+    """The share in a stratum of rows that span an own part, or a row that shows that there is none."""
+    parts = parts_in(stratum, rows)
+    odd = odd_row(rows, parts)
+    if odd is not None:
+        return "none", led_row(odd)
+    top, bottom = share_pair(rows, parts, bottom_for(stratum))
+    return "share", ratio_of(top, bottom)
 
 
 def joined_parts_of(strata, rows, others):
     """The index of the first stratum in which rows of two own parts are not square, and such rows; or None."""
     for index, stratum in enumerate(strata):
-        below = bottom_for(stratum)
-        found = first_joined(rows, others, [part_tops(stratum, other, below) for other in others])
+        found = first_joined(rows, others, parts_in(stratum, others))
         if found is not None:
             return index, led_row(found[0]), led_row(found[1])
     return None
@@ -215,8 +224,9 @@ def is_share_pair(model, term, stratum, rows, value):
         return is_share_missing(model, term, stratum, value[1])
     if value[0] != "share" or not is_ratio(value[1]):
         return False
-    found = share_by(stratum, rows)
-    return found[0] == "share" and found[1] == value[1]
+    parts = parts_in(stratum, rows)
+    top, bottom = share_pair(rows, parts, bottom_for(stratum))
+    return odd_row(rows, parts) is None and value[1].top * bottom == top * value[1].bottom
 
 
 def is_ahead(terms, one, other):
