@@ -8,6 +8,8 @@ from worthstead.exact.ratios import Ratio
 from worthstead.exact.spaces import Space
 from worthstead.formulas.counts import Count
 from worthstead.formulas.formulas import Formula
+from worthstead.models.models import Model
+from worthstead.plans.plans import Plan
 from worthstead.tables.columns import Factor, Numbers
 from worthstead.tables.tables import Table
 
@@ -60,7 +62,8 @@ def wrong_values():
         nested(50), nested(49, "a"), nested(50, ()), Ratio(1), (Ratio(1),), ((Ratio(1),), (Ratio(1), Ratio(2))),
         Factor(("x", "y"), (0, 1)), Numbers((None,)), Table({}), Table({}, total=3), Formula(()), Formula(((), ("a",))),
         Count({}), Space(0, ()), Space.whole(2), errors.WorthError("a"), errors.TooMany(3), (Formula(()), Table({})),
-        {"a": Table({})}, {"a": Ratio(1)}, [Ratio(1)], [(Ratio(1),)],
+        {"a": Table({})}, {"a": Ratio(1)}, [Ratio(1)], [(Ratio(1),)], Model(Table({}), Formula(())), Plan(2, ("a",), ()),
+        (Model(Table({}), Formula(())),), ("told", ()), {"a": {"a": "first"}},
     ]
 
 
@@ -92,6 +95,8 @@ class Case(unittest.TestCase):
     def all_rejected(self, kind, call, right=()):
         """All wrong values are rejected, but for those that are right here."""
         for value in wrong_values():
-            if not any(type(value) is type(one) and value == one for one in right):
+            # Where a model or a plan is asked for, the ones among these values are right.
+            asked = {errors.InvalidModel: Model, errors.InvalidPlan: Plan}.get(kind)
+            if type(value) is not asked and not any(type(value) is type(one) and value == one for one in right):
                 with self.subTest(value=repr(value)[:80]):
                     self.raises(kind, call, value)

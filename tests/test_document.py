@@ -5,9 +5,17 @@ from worthstead.errors import ParseError
 from worthstead.exact.ratios import Ratio
 from worthstead.exact.rows import base_of, is_summed, rank_of, summed, sums_of
 from worthstead.exact.spaces import Space
+from worthstead.fits.fits import Fit
+from worthstead.fits.strata import Strata
 from worthstead.formulas.counts import count_of
 from worthstead.formulas.reader import read_formula
 from worthstead.formulas.shadows import is_alike, joint, parted, plain, shadow_of
+from worthstead.models.cells import joined_parts, way_between
+from worthstead.models.leading import leading
+from worthstead.models.models import Model
+from worthstead.models.told import hanging, told
+from worthstead.plans.making import count_right, least, least_with, struck
+from worthstead.plans.plans import Plan
 from worthstead.tables.columns import Factor, Numbers
 from worthstead.tables.tables import Table
 from worthstead.tables.texts import write_table
@@ -16,7 +24,8 @@ NAMES = {
     one.__name__: one
     for one in (
         Ratio, base_of, is_summed, rank_of, summed, sums_of, Space, count_of, read_formula, is_alike, joint, parted,
-        plain, shadow_of, Factor, Numbers, Table, write_table,
+        plain, shadow_of, Factor, Numbers, Table, write_table, Model, leading, told, hanging, joined_parts, way_between,
+        Fit, Strata, Plan, struck, least, least_with, count_right,
     )
 }
 
@@ -68,6 +77,63 @@ SHADOWS = '''
 ('parted', 'other', (('x',), ()), ({'x': 0}, {'x': 1}), (-1, 1))
 '''
 
+MODELS = '''
+>>> NUMBERS = Numbers((Ratio(2), Ratio(3), Ratio(5)))
+>>> TABLE = Table({"a": Factor(("x", "y"), (0, 1, 1)), "b": Factor(("u", "v", "w"), (2, 0, None)), "n": NUMBERS})
+>>> model = Model(TABLE, read_formula("1 + a:n + b"), codings={"b": "steps"})
+>>> [model.kept, model.names, str(model), model.codings]
+[(0, 1), ((), (('b', 1),), (('b', 2),), (('n', None),), (('a', 1), ('n', None))), 'model of 2 rows, 5 columns', {'a': 'first', 'b': 'steps'}]
+>>> [[[str(one) for one in row] for row in side] for side in leading(Model(TABLE, read_formula("a")), {"a": "sum"})]
+[[['1', '1/2'], ['0', '-1/2']], [['1', '0'], ['1', '-2']]]
+'''
+
+TOLD = '''
+>>> TABLE = Table({"a": Factor(("x", "y"), (0, 1, 1)), "b": Factor(("u", "v", "w"), (0, 0, 1))})
+>>> model = Model(TABLE, read_formula("a + b"))
+>>> ZERO, ONE = Ratio(0), Ratio(1)
+>>> told(model, (ZERO, ZERO, ONE, ZERO)) == ("told", (ZERO, Ratio(-1), ONE))
+True
+>>> told(model, (ZERO, ZERO, ZERO, ONE)) == ("free", (ZERO, ZERO, ZERO, ONE))
+True
+>>> [hanging(model) == {3: (ZERO, ZERO, ZERO)}, joined_parts(TABLE, "a", "b"), way_between(TABLE, "a", "b", 0, 1), way_between(TABLE, "a", "b", 0, 2)]
+[True, (((0, 1), (0, 1)),), (1, 2), None]
+'''
+
+FITS = '''
+>>> rows = {"a": Factor(("p", "q"), (0, 0, 1)), "b": Factor(("r", "s"), (0, 1, 1)), "y": Numbers((Ratio(1), Ratio(3), Ratio(5)))}
+>>> fit = Fit(Model(Table(rows), read_formula("y ~ a")))
+>>> [[str(one) for one in part] for part in (fit.weights, fit.fitted, fit.rests, (fit.total, fit.left), fit.sums())]
+[['2', '3'], ['2', '2', '5'], ['-1', '1', '0'], ['35', '2'], ['27', '6', '2']]
+>>> both = Model(Table(rows), read_formula("y ~ a + b"))
+>>> [[str(one) for one in part] for part in (Fit(both).sums(), Fit(both).sums(order=((), ("b",), ("a",))), Fit(both).behind_sums())]
+[['27', '6', '2', '0'], ['27', '6', '2', '0'], ['27', '2', '2', '0']]
+'''
+
+STRATA = '''
+>>> table = Table({"a": Factor(("l", "h"), (0, 0, 1, 1)), "b": Factor(("l", "h"), (0, 1, 0, 1)), "c": Factor(("p", "q", "r"), (0, 1, 1, 2))})
+>>> strata = Strata(Model(table, read_formula("a * b")), ("c",))
+>>> [[len(space) for space in strata.spaces], [[str(f) for word, f in strata.share(term)] for term in ((), ("a",), ("b",), ("a", "b"))]]
+[[1, 2, 1], [['1', '0', '0'], ['0', '1/2', '1/2'], ['0', '1/2', '1/2'], ['0', '1', '0']]]
+>>> [strata.balanced()[:4], strata.is_unbalanced(("parts", ("a",), ("b",), 2, (Ratio(1), Ratio(1), Ratio(-1), Ratio(-1)), (Ratio(1), Ratio(-1), Ratio(1), Ratio(-1))))]
+[('parts', ('a',), ('b',), 1), True]
+'''
+
+PLANS = '''
+>>> HALF = Plan(2, ("a", "b", "c"), (((1, 1, 1), 0),))
+>>> [HALF.runs, HALF.constants(), HALF.strength(), HALF.lengths(), HALF.distances()]
+[((0, 0, 0), (0, 1, 1), (1, 0, 1), (1, 1, 0)), ((1, 1, 1),), 2, (1, 0, 0, 1), (1, 0, 3, 0)]
+>>> [HALF.alias_sets(), HALF.spread(("a", "b")), HALF.spread(("a", "b", "c"))]
+[(((0, 0, 1), (1, 1, 0)), ((0, 1, 0), (1, 0, 1)), ((0, 1, 1), (1, 0, 0))), ('even', 1), ('uneven', (1, 1, 1))]
+>>> [HALF.moved((1, 0, 0), (0, 1, 1)), Plan(2, ("a", "b", "c"), (((1, 1, 1), 1),)).moved((1, 0, 0), (0, 1, 1)), HALF.told_alone(("a",), (("b", "c"),)), HALF.told_alone(("a",), (("b",),))]
+[(1, 0), (1, 1), ('met', (1, 0, 0), (0, 1, 1)), ('alone',)]
+'''
+
+MAKING = '''
+>>> MAINS = ((1, 0, 0), (0, 1, 0), (0, 0, 1))
+>>> [struck(2, 3, MAINS), least(2, ("a", "b", "c"), MAINS).rows, least_with(2, ("a", "b", "c"), MAINS, 2), count_right(2, ("a", "b", "c"), MAINS, 1)]
+[((0, 0, 1), (0, 1, 0), (0, 1, 1), (1, 0, 0), (1, 0, 1), (1, 1, 0)), (((1, 1, 1), 0),), None, 1]
+'''
+
 
 class DocumentTest(Case):
     def run_examples(self, block):
@@ -99,3 +165,21 @@ class DocumentTest(Case):
 
     def test_shadows(self):
         self.run_examples(SHADOWS)
+
+    def test_models(self):
+        self.run_examples(MODELS)
+
+    def test_told(self):
+        self.run_examples(TOLD)
+
+    def test_fits(self):
+        self.run_examples(FITS)
+
+    def test_strata(self):
+        self.run_examples(STRATA)
+
+    def test_plans(self):
+        self.run_examples(PLANS)
+
+    def test_making(self):
+        self.run_examples(MAKING)

@@ -20,6 +20,29 @@ FUNCTIONS = {
         "joint(one, other, kinds)",
     ],
     "worthstead.formulas.counts": ["count_of(formula, kinds)"],
+    "worthstead.models.codings": ["coding_row(word, total, level)"],
+    "worthstead.models.leading": ["leading(model, codings)"],
+    "worthstead.models.told": [
+        "told(model, wanted)", "is_told(model, wanted, value)", "hanging(model)", "means(model, names, *, at=None)",
+    ],
+    "worthstead.models.cells": [
+        "joined_parts(table, one, other)", "way_between(table, one, other, start, end)",
+        "fewest(formula, kinds, levels, cells)",
+    ],
+    "worthstead.fits.orders": [
+        "is_held(formula, kinds, one, other)", "own_part(model, term)", "late_space(model, term)",
+        "is_fair(model, order)", "fair_orders(model)", "idle(model)", "is_hanging(model, value)",
+    ],
+    "worthstead.fits.counts": ["equal_share(blocks, levels)"],
+    "worthstead.plans.words": [
+        "is_word(p, many, value)", "support(word)", "normal(p, word)", "times(p, word, by)", "plus(p, word, other)",
+        "span_of_words(p, many, words)", "reduced(p, many, rows)",
+    ],
+    "worthstead.plans.making": [
+        "struck(p, many, wanted, *, beside=())", "is_right(plan, wanted, *, beside=())",
+        "least(p, names, wanted, *, beside=())", "least_with(p, names, wanted, rows, *, beside=())",
+        "count_right(p, names, wanted, rows, *, beside=())",
+    ],
 }
 CLASSES = {
     "worthstead.exact.ratios.Ratio": (
@@ -43,6 +66,22 @@ CLASSES = {
         "terms response names __add__ __sub__ with_term without __contains__ __len__ __iter__ __eq__ __str__",
     ),
     "worthstead.formulas.counts.Count": ("(terms)", "terms __add__ __sub__ __call__ __eq__ __str__"),
+    "worthstead.models.models.Model": (
+        "(table, formula, *, codings=None)",
+        "table formula codings kinds levels kept names rows response space row_for span_of __len__ __eq__ __str__",
+    ),
+    "worthstead.fits.fits.Fit": (
+        "(model)", "model weights fitted rests total left foretold sums behind_sums __eq__ __str__",
+    ),
+    "worthstead.fits.strata.Strata": (
+        "(model, blocks)",
+        "model blocks spaces __len__ __eq__ __str__ told_in is_told_in sums_in share is_share balanced is_unbalanced",
+    ),
+    "worthstead.plans.plans.Plan": (
+        "(p, names, rows)",
+        "p names rows runs __contains__ __len__ __iter__ __eq__ __str__ is_constant is_same constants alias_set "
+        "alias_sets moved strength spread lengths distances space_of as_table told_alone",
+    ),
 }
 METHODS = {
     "worthstead.exact.ratios.Ratio": ["of_text(text)", "over(self, other)", "is_less(self, other)"],
@@ -58,6 +97,17 @@ METHODS = {
     ],
     "worthstead.formulas.formulas.Formula": ["with_term(self, term)", "without(self, term)"],
     "worthstead.formulas.counts.Count": ["__call__(self, levels)"],
+    "worthstead.models.models.Model": ["row_for(self, worths)", "span_of(self, term)"],
+    "worthstead.fits.fits.Fit": ["foretold(self, worths)", "sums(self, *, order=None)", "behind_sums(self)"],
+    "worthstead.fits.strata.Strata": [
+        "told_in(self, index, wanted)", "is_told_in(self, index, wanted, value)", "sums_in(self, index, *, order=None)",
+        "share(self, term)", "is_share(self, term, value)", "balanced(self)", "is_unbalanced(self, value)",
+    ],
+    "worthstead.plans.plans.Plan": [
+        "is_constant(self, word)", "is_same(self, word, other)", "constants(self)", "alias_set(self, word)",
+        "alias_sets(self)", "moved(self, word, other)", "strength(self)", "spread(self, term)", "lengths(self)",
+        "distances(self)", "space_of(self, word)", "as_table(self)", "told_alone(self, term, beside)",
+    ],
 }
 CONSTANTS = {
     "worthstead.exact.ratios": {"MAX_FIGURES": 60, "MAX_DIGITS": 2000},
@@ -69,6 +119,9 @@ CONSTANTS = {
         "WAYS": ("all", "left", "pairs", "right"), "WORDS": ("count", "greatest", "least", "mean", "sum"),
     },
     "worthstead.formulas.formulas": {"MAX_NAMES": 9, "MAX_TERMS": 200},
+    "worthstead.models.codings": {"CODINGS": ("first", "last", "sum", "steps")},
+    "worthstead.models.models": {"MAX_KEPT": 64, "MAX_COLUMNS": 24, "MAX_FIGURES": 6},
+    "worthstead.fits.strata": {"MAX_BLOCKS": 6},
 }
 
 

@@ -184,7 +184,8 @@ class MeansTest(Case):
         model = model_of(LITTLE, "a*b + n", a="sum")
         found = means(model, ("b", "a"), at={"n": r("1/2")})
         self.assertEqual(list(found), [(0, 0), (0, 1), (1, 0), (1, 1), (2, 0), (2, 1)])
-        self.assertEqual(means(model, ()), {(): row("1 0 1/3 1/3 0 0 0")} if model.names[3][0][0] == "b" else None)
+        self.assertEqual(found[(2, 1)], model.row_for({"a": 1, "b": 2, "n": r("1/2")}))
+        self.assertEqual(means(model, ()), {(): row("1 0 1/3 1/3 0 0 0")})
         self.assertEqual(list(means(model, ("a",))), [(0,), (1,)])
 
     def test_order_of_columns(self):
