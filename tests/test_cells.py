@@ -186,7 +186,7 @@ class FewestTest(Case):
 
     def test_kinds_of_arguments(self):
         formula, kinds, levels = read_formula("y ~ a + b"), {"a": "factor", "b": "factor"}, {"a": 2, "b": 3}
-        self.all_rejected(InvalidFormula, lambda one: fewest(one, 3, 3, 3), right=(Formula(()), Formula(((), ("a",)))))
+        self.all_rejected(InvalidFormula, lambda one: fewest(one, {}, 3, 3), right=(Formula(()), Formula(((), ("a",)))))
         self.all_rejected(InvalidFormula, lambda one: fewest(formula, one, 3, 3), right=({}, {"a": "factor"}))
         self.all_rejected(InvalidModel, lambda one: fewest(formula, kinds, one, 3))
         for wrong in (

@@ -334,6 +334,7 @@ class RowForTest(Case):
         for wrong in (
             {"a": 0}, {**right, "b": 0}, {**right, "y": r(1)}, {**right, "a": 2}, {**right, "a": -1}, {**right, "a": None},
             {**right, "a": True}, {**right, "n": 1}, {**right, "n": None}, {"a": r(1), "n": 0}, {"a": "x", "n": r(1)},
+            {"a": 0, "q": r(1)}, {"b": 0, "n": r(1)},
         ):
             self.raises(InvalidModel, model.row_for, wrong)
         self.raises(InvalidModel, model.row_for, {"a": 0, "n": None})

@@ -63,7 +63,7 @@ class HeldTest(Case):
 
     def test_wrong_arguments(self):
         formula = read_formula("y ~ a + u")
-        self.all_rejected(InvalidFormula, lambda one: is_held(one, None, 3, 3), right=(Formula(()), Formula(((), ("a",)))))
+        self.all_rejected(InvalidFormula, lambda one: is_held(one, {}, 3, 3), right=(Formula(()), Formula(((), ("a",)))))
         self.all_rejected(InvalidFormula, lambda one: is_held(formula, one, 3, 3), right=({}, {"a": "factor"}))
         self.unknown("a", is_held, formula, {}, 3, 3)
         self.unknown("u", is_held, formula, {"a": "factor"}, 3, 3)
@@ -279,6 +279,19 @@ class IdleTest(Case):
         self.assertFalse(is_hanging(model, one + (((), ("a",), ("u",), ("b",)), ((), ("b",), ("u",), ("a",)))))
         self.assertFalse(is_hanging(model, one + (first, late[1])))
         self.assertFalse(is_hanging(model, one + (first, ((), ("b",), ("u",), ("a",)))))
+
+    def test_terms_with_few_names_first(self):
+        # The own parts of a:b and b:c are not square here, but a certificate for them is not made in this way.
+        table = Table({"a": factor(2, (1, 0, 1, 0, 0)), "b": factor(2, (1, 0, 0, 1, 0)), "c": factor(2, (1, 1, 0, 0, 1))})
+        model = model_of(table, "a*b + b*c")
+        self.check_certificate(model, idle(model))
+        self.assertTrue(is_hanging(model, idle(model)))
+        rng = random.Random(89)
+        for _ in range(40):
+            table = random_table(rng, rng.randint(3, 9), number_names="")
+            model = model_of(table, rng.choice(("a*b + b*c", "a*b*c", "a:b + c + b", "0 + a + b*c", "(a + b + c)^2")))
+            if idle(model) != ("idle",):
+                self.check_certificate(model, idle(model))
 
     def test_only_for_this_model(self):
         fair = table_of("factor a p,q p p q q", "factor b r,s r s r s")

@@ -241,8 +241,8 @@ class ClassTest(Case):
     def test_wrong_words(self):
         plan = Plan(3, ("a", "b"), (((1, 1), 0),))
         calls = (
-            plan.is_constant, plan.alias_set, plan.space_of, lambda word: plan.is_same(word, None),
-            lambda word: plan.is_same((1, 0), word), lambda word: plan.moved(word, None), lambda word: plan.moved((1, 0), word),
+            plan.is_constant, plan.alias_set, plan.space_of, lambda word: plan.is_same(word, (1, 0)),
+            lambda word: plan.is_same((1, 0), word), lambda word: plan.moved(word, (1, 0)), lambda word: plan.moved((1, 0), word),
         )
         for call in calls:
             self.all_rejected(InvalidWords, call)
@@ -300,7 +300,7 @@ class SpreadTest(Case):
         self.assertEqual(Plan(2, NAMES, (((1,) * 8, 1),)).strength(), 7)
 
     def test_wrong_terms(self):
-        for call in (HALF.spread, lambda term: HALF.told_alone(term, None)):
+        for call in (HALF.spread, lambda term: HALF.told_alone(term, ()), lambda term: HALF.told_alone(term, None)):
             self.all_rejected(InvalidFormula, call, right=(("a",),))
             for wrong in ((), ("b", "a"), ("a", "a"), ("d",), ["a"], "a", ("a", "d")):
                 self.raises(InvalidFormula, call, wrong)

@@ -14,7 +14,9 @@ from worthstead.exact.ratios import Ratio, total
 from worthstead.exact.spaces import Space
 from worthstead.fits.counts import equal_share
 from worthstead.fits.fits import Fit
+from worthstead.fits.orders import own_part
 from worthstead.fits.strata import Strata
+from worthstead.models.codings import CODINGS
 from worthstead.models.models import Model
 from worthstead.models.told import told
 from worthstead.tables.columns import Factor
@@ -319,12 +321,20 @@ class ShareTest(Case):
 
     def test_unlike_multiples(self):
         # Each of the two columns comes back by its own share, so their sum comes back as no multiple.
-        table = table_of("factor a p,q,r,s p p q q r r s s", "factor c t,u,v,w t t u u v w v w")
-        strata = Strata(model_of(table, "a"), ("c",))
-        found = strata.share(("a",))
-        self.assertEqual([word for word, _ in found], ["share", "none", "none"])
-        self.check_none(slow_own(strata.model, ("a",)), slow_strata(strata.model, ("c",))[1], found[1][1])
-        self.assertTrue(strata.is_share(("a",), found))
+        table = table_of("factor a p,q,r p q p q r r", "factor c t,u,v t t u u v v")
+        for word in CODINGS:
+            strata = Strata(model_of(table, "a", a=word), ("c",))
+            found = strata.share(("a",))
+            self.assertEqual([word for word, _ in found], ["share", "none", "none"])
+            for index in (1, 2):
+                self.check_none(slow_own(strata.model, ("a",)), slow_strata(strata.model, ("c",))[index], found[index][1])
+            self.assertTrue(strata.is_share(("a",), found))
+            # The difference of p and q comes back as 0 from the blocks, so it shows nothing.
+            for wrong in (row("1 -1 1 -1 0 0"), row("1 1 1 1 -2 -2")):
+                self.assertFalse(strata.is_share(("a",), (found[0], ("none", wrong), found[2])))
+            self.assertTrue(strata.is_share(("a",), (found[0], ("none", row("2 0 2 0 -2 -2")), found[2])))
+            for wrong in ("0", "1", "1/2", "1/3", "2/3", "1/4", "3/4"):
+                self.assertFalse(strata.is_share(("a",), (found[0], ("share", r(wrong)), found[2])))
 
     def test_certificates(self):
         strata = Strata(model_of(SPLIT, "a*b"), ("c",))
@@ -350,7 +360,11 @@ class ShareTest(Case):
             self.assertEqual(free.is_share(("a",), (found[0], ("none", row(vector)), found[2])), expected)
         for wrong in (row("0 0 0 0"), row("1 0 0 0"), row("1 -1 -1"), (5, -3, -3, 1), r(1), None, list(row("5 -3 -3 1"))):
             self.assertFalse(free.is_share(("a",), (found[0], ("none", wrong), found[2])))
-        self.assertFalse(free.is_share(("a",), (found[0], ("share", r("1/2")), found[2])))
+        stratum = slow_strata(free.model, ("c",))[1]
+        for vector in as_fractions(tuple(own_part(free.model, ("a",)))) + slow_own(free.model, ("a",)):
+            # The share that this row alone would have.
+            wrong = as_ratios([[product(vector, part(stratum, vector)) / square(vector)]])[0][0]
+            self.assertFalse(free.is_share(("a",), (found[0], ("share", wrong), found[2])))
         hanging = Strata(model_of(table_of("number u 0 0"), "u"), ())
         self.assertEqual(hanging.share(("u",)), ())
         self.assertTrue(hanging.is_share(("u",), ()))
@@ -457,6 +471,7 @@ class BalancedTest(Case):
             ("share", ("a",), 0, vector), ("share", (), 1, vector), ("share", ("a",), 3, vector), ("share", ("a",), True, vector),
             ("share", ("a",), 1, row("0 0 0 0")), ("share", ("a",), 1, row("1 -1 -1 1")) if vector != row("1 -1 -1 1") else 0,
             ("share", ("b",), 1, vector), ("share", ("a",), 1, vector, vector), ("share", "a", 1, vector),
+            ("parts", ("a",), 1, vector), (("share",), ("a",), 1, vector), ["share", ("a",), 1, vector],
         ):
             self.assertEqual(free.is_unbalanced(wrong), False, wrong)
 
@@ -518,7 +533,8 @@ class EqualShareTest(Case):
     def test_wrong_arguments(self):
         right = factor(2, (0, 1))
         good = (Factor(("x", "y"), (0, 1)),)
-        self.all_rejected(InvalidTable, lambda one: equal_share(one, None), right=())
+        self.all_rejected(InvalidTable, lambda one: equal_share(one, right), right=good)
+        self.raises(InvalidTable, equal_share, factor(2, ()), factor(2, ()))
         self.all_rejected(InvalidTable, lambda one: equal_share(right, one), right=good)
         for wrong in (factor(2, ()), factor(2, (0, None)), factor(2, (0, 1, 1)), numbers(1, 2)):
             self.raises(InvalidTable, equal_share, right, wrong)

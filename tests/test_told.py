@@ -197,6 +197,7 @@ class MeansTest(Case):
     def test_wrong_arguments(self):
         model = model_of(LITTLE, "a + b + n")
         self.all_rejected(InvalidModel, lambda one: means(one, None, at=3))
+        self.all_rejected(InvalidModel, lambda one: means(one, ()))
         self.all_rejected(InvalidModel, lambda one: means(model, one), right=((), ("a",)))
         for wrong in (("a", "a"), ("n",), ("q",), ["a"], "a", ("a", "n"), (("a",),)):
             self.raises(InvalidModel, means, model, wrong)

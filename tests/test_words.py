@@ -4,7 +4,7 @@ import itertools
 import random
 
 from tests.support import Case, r, wrong_values
-from worthstead.errors import InvalidNumber, InvalidWords
+from worthstead.errors import InvalidWords
 from worthstead.plans.words import is_word, normal, plus, reduced, span_of_words, support, times
 
 PRIMES = (2, 3, 5, 7)
@@ -167,7 +167,8 @@ class ReducedTest(Case):
     def test_wrong_arguments(self):
         for value in wrong_values() + [4]:
             if not (type(value) is int and value in PRIMES):
-                self.raises(InvalidNumber, reduced, value, 9, None)
+                self.number(value, reduced, value, 9, None)
+                self.number(value, reduced, value, 1, ())
         self.number(0, reduced, 2, 0, None)
         self.all_rejected(InvalidWords, lambda one: reduced(2, 2, one), right=((),))
         right = ((1, 0), 0)

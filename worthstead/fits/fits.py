@@ -72,10 +72,12 @@ class Fit:
 
     def behind_sums(self):
         """The squares of the parts of the response in the late spaces, and left."""
+        # Where what is left is too long, the sums, which take longer, need not be known.
+        left = self.left
         side, bottom = scaled(self._model.response)
         columns = integer_columns(self._model)[0]
         pairs = [late_sum(self._model, columns, term, side) for term in self._model.formula.terms]
-        return ratios_of(pairs_over(pairs + lefts_of(columns, side)[-1:], bottom))
+        return ratios_of(pairs_over(pairs, bottom)) + (left,)
 
     def __eq__(self, other):
         return isinstance(other, Fit) and self._model == other._model
