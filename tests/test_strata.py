@@ -468,7 +468,8 @@ class BalancedTest(Case):
         self.assertEqual((word, term, index), ("share", ("a",), 1))
         self.assertTrue(free.is_unbalanced(("share", ("a",), 2, vector)))
         for wrong in (
-            ("share", ("a",), 0, vector), ("share", (), 1, vector), ("share", ("a",), 3, vector), ("share", ("a",), True, vector),
+            ("share", ("a",), 0, vector), ("share", (), 1, vector), ("share", ("a",), 3, vector), ("share", ("a",), -1, vector),
+            ("share", ("a",), True, vector),
             ("share", ("a",), 1, row("0 0 0 0")), ("share", ("a",), 1, row("1 -1 -1 1")) if vector != row("1 -1 -1 1") else 0,
             ("share", ("b",), 1, vector), ("share", ("a",), 1, vector, vector), ("share", "a", 1, vector),
             ("parts", ("a",), 1, vector), (("share",), ("a",), 1, vector), ["share", ("a",), 1, vector],
