@@ -4,14 +4,22 @@ import unittest
 from fractions import Fraction
 
 from worthstead import errors
+from worthstead.code.blocks import Block, Code
+from worthstead.code.making import compiled
+from worthstead.desk.desk import Desk
+from worthstead.desk.kept import KeptFit
 from worthstead.exact.ratios import Ratio
 from worthstead.exact.spaces import Space
 from worthstead.formulas.counts import Count
 from worthstead.formulas.formulas import Formula
+from worthstead.lang.runs import Run
+from worthstead.machine.machine import Machine
 from worthstead.models.models import Model
+from worthstead.plans.blocks import Blocked
 from worthstead.plans.plans import Plan
 from worthstead.tables.columns import Factor, Numbers
 from worthstead.tables.tables import Table
+from worthstead.trials.relabelings import Relabelings
 
 
 def r(text):
@@ -63,7 +71,17 @@ def wrong_values():
         Factor(("x", "y"), (0, 1)), Numbers((None,)), Table({}), Table({}, total=3), Formula(()), Formula(((), ("a",))),
         Count({}), Space(0, ()), Space.whole(2), errors.WorthError("a"), errors.TooMany(3), (Formula(()), Table({})),
         {"a": Table({})}, {"a": Ratio(1)}, [Ratio(1)], [(Ratio(1),)], Model(Table({}), Formula(())), Plan(2, ("a",), ()),
-        (Model(Table({}), Formula(())),), ("told", ()), {"a": {"a": "first"}},
+        (Model(Table({}), Formula(())),), ("told", ()), {"a": {"a": "first"}}, *late_objects(),
+    ]
+
+
+def late_objects():
+    """An object of each class of the later stages; the code is none that is sound."""
+    block = Block("late", (), (), (("end",),))
+    kept = KeptFit(Table({"y": Numbers((None,))}), Formula(((),), response="y"))
+    return [
+        Blocked(Plan(2, ("a",), ()), ((1,),)), Relabelings(("a",), (0,)), block, Code((block,)), Run(()), Machine(compiled(())),
+        kept, Desk(),
     ]
 
 

@@ -1,6 +1,8 @@
 """The examples of the document, word for word."""
 
 from tests.support import Case
+from worthstead.code.making import compiled
+from worthstead.desk.kept import KeptFit
 from worthstead.errors import ParseError
 from worthstead.exact.ratios import Ratio
 from worthstead.exact.rows import base_of, is_summed, rank_of, summed, sums_of
@@ -10,22 +12,27 @@ from worthstead.fits.strata import Strata
 from worthstead.formulas.counts import count_of
 from worthstead.formulas.reader import read_formula
 from worthstead.formulas.shadows import is_alike, joint, parted, plain, shadow_of
+from worthstead.lang.reader import read_program
+from worthstead.lang.runs import outcome
 from worthstead.models.cells import joined_parts, way_between
 from worthstead.models.leading import leading
 from worthstead.models.models import Model
 from worthstead.models.told import hanging, told
+from worthstead.plans.blocks import Blocked
 from worthstead.plans.making import count_right, least, least_with, struck
 from worthstead.plans.plans import Plan
 from worthstead.tables.columns import Factor, Numbers
 from worthstead.tables.tables import Table
 from worthstead.tables.texts import write_table
+from worthstead.trials.relabelings import Relabelings
 
 NAMES = {
     one.__name__: one
     for one in (
         Ratio, base_of, is_summed, rank_of, summed, sums_of, Space, count_of, read_formula, is_alike, joint, parted,
         plain, shadow_of, Factor, Numbers, Table, write_table, Model, leading, told, hanging, joined_parts, way_between,
-        Fit, Strata, Plan, struck, least, least_with, count_right,
+        Fit, Strata, Plan, struck, least, least_with, count_right, Blocked, Relabelings, read_program, outcome, compiled,
+        KeptFit,
     )
 }
 
@@ -134,6 +141,39 @@ MAKING = '''
 [((0, 0, 1), (0, 1, 0), (0, 1, 1), (1, 0, 0), (1, 0, 1), (1, 1, 0)), (((1, 1, 1), 0),), None, 1]
 '''
 
+BLOCKS = r'''
+>>> eight = Blocked(Plan(2, ("a", "b", "c"), ()), ((1, 1, 1),))
+>>> [eight.blocks, eight.is_lost((1, 1, 1)), eight.is_kept((1, 1, 0)), eight.lost(), str(eight)]
+[(0, 1, 1, 0, 1, 0, 0, 1), True, True, ((1, 1, 1),), '8 runs in 2 blocks']
+'''
+
+TRIALS = r'''
+>>> trial = Relabelings(("a", "b", "a", "b"), (0, 0, 1, 1))
+>>> values = (Ratio(1), Ratio(2), Ratio(3), Ratio(5))
+>>> [(str(one), number) for one, number in trial.counts(values, "a")]
+[('4', 1), ('5', 1), ('6', 1), ('7', 1)]
+>>> [str(trial.told_share(values, "a", way)) for way in ("high", "low", "far")], [str(one) for one in trial.moments(values, "a")]
+(['1', '1/4', '1/2'], ['11/2', '5/4'])
+'''
+
+RUNS = r'''
+>>> outcome(read_program('f <- fun(x, y = x + 1) { x <- 5; y }\nprint(f({ print("a"); 2 }))\ntry(1 / 0, fun(w, t) w)'))
+(('done', 'zero'), ('6',), 22)
+'''
+
+CODES = r'''
+>>> CODE = compiled(read_program("a <- 2 + 3\nf <- fun(x, y = x) x * a\nf(y = 1, 7 - a)"))
+>>> [CODE[0].slots, CODE[0].rows[2:6], CODE[1].slots, CODE[1].params, CODE[1].rows]
+[('a', 'f'), (('set', 0), ('drop',), ('statement', 1), ('function', 1)), ('x', 'y'), (('x', None), ('y', 2)), (('slot', 0), ('name', 'a'), ('operator', '*', 2), ('end',))]
+'''
+
+KEPT = r'''
+>>> DATA = Table({"a": Factor(("lo", "hi"), (0, 1)), "y": Numbers((Ratio(1), Ratio(3)))})
+>>> kept = KeptFit(DATA, read_formula("y ~ a"))
+>>> [kept.put({"a": 1, "y": Ratio(5)}), kept.numbers, [(name, str(one), str(other)) for name, one, other in kept.changes]]
+[2, (0, 1, 2), [((('a', 1),), '2', '3')]]
+'''
+
 
 class DocumentTest(Case):
     def run_examples(self, block):
@@ -183,3 +223,18 @@ class DocumentTest(Case):
 
     def test_making(self):
         self.run_examples(MAKING)
+
+    def test_blocks(self):
+        self.run_examples(BLOCKS)
+
+    def test_trials(self):
+        self.run_examples(TRIALS)
+
+    def test_runs(self):
+        self.run_examples(RUNS)
+
+    def test_codes(self):
+        self.run_examples(CODES)
+
+    def test_kept_fits(self):
+        self.run_examples(KEPT)

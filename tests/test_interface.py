@@ -43,6 +43,13 @@ FUNCTIONS = {
         "least(p, names, wanted, *, beside=())", "least_with(p, names, wanted, rows, *, beside=())",
         "count_right(p, names, wanted, rows, *, beside=())",
     ],
+    "worthstead.plans.blocks": ["folded(plan, shifts)", "side_by_side(one, other)", "squares(p)", "squares_plan(p)"],
+    "worthstead.lang.trees": ["is_program(value)", "is_expression(value)"],
+    "worthstead.lang.reader": ["read_program(text)", "read_expression(text)"],
+    "worthstead.lang.writer": ["write_program(program)", "write_expression(tree)"],
+    "worthstead.lang.runs": ["outcome(program)"],
+    "worthstead.code.making": ["compiled(program)"],
+    "worthstead.code.judge": ["is_sound(value)", "depths(code)"],
 }
 CLASSES = {
     "worthstead.exact.ratios.Ratio": (
@@ -82,6 +89,29 @@ CLASSES = {
         "p names rows runs __contains__ __len__ __iter__ __eq__ __str__ is_constant is_same constants alias_set "
         "alias_sets moved strength spread lengths distances space_of as_table told_alone",
     ),
+    "worthstead.plans.blocks.Blocked": (
+        "(plan, words)", "plan words blocks is_lost is_kept lost table_with __len__ __eq__ __str__",
+    ),
+    "worthstead.trials.relabelings.Relabelings": (
+        "(labels, blocks, *, among=False)",
+        "labels blocks is_among total is_relabeling counts told_share floor moments pairs __len__ __eq__ __str__",
+    ),
+    "worthstead.lang.runs.Run": ("(program)", "advance end lines steps names text_of"),
+    "worthstead.code.blocks.Block": (
+        "(kind, params, slots, rows, text='')", "kind params slots rows text __eq__",
+    ),
+    "worthstead.code.blocks.Code": ("(blocks)", "blocks __getitem__ __len__ __iter__ __eq__ __str__"),
+    "worthstead.machine.machine.Machine": (
+        "(code)", "step run_on code end lines steps names place open_total text_of frozen thawed twin",
+    ),
+    "worthstead.desk.kept.KeptFit": (
+        "(table, formula, *, codings=None)",
+        "put drop bring take pledge release table formula codings model fit numbers pledges changes steps undo redo twin "
+        "__len__ __eq__ __str__",
+    ),
+    "worthstead.desk.desk.Desk": (
+        "()", "lay order lift thing names undo redo twin __contains__ __len__ __eq__",
+    ),
 }
 METHODS = {
     "worthstead.exact.ratios.Ratio": ["of_text(text)", "over(self, other)", "is_less(self, other)"],
@@ -108,6 +138,26 @@ METHODS = {
         "alias_sets(self)", "moved(self, word, other)", "strength(self)", "spread(self, term)", "lengths(self)",
         "distances(self)", "space_of(self, word)", "as_table(self)", "told_alone(self, term, beside)",
     ],
+    "worthstead.plans.blocks.Blocked": [
+        "is_lost(self, word)", "is_kept(self, word)", "lost(self)", "table_with(self, names)",
+    ],
+    "worthstead.trials.relabelings.Relabelings": [
+        "is_relabeling(self, value)", "counts(self, values, label)", "told_share(self, values, label, way)",
+        "floor(self, values, label)", "moments(self, values, label)", "pairs(self, values, label, other)",
+    ],
+    "worthstead.lang.runs.Run": ["advance(self, *, many=None)", "text_of(self, name)"],
+    "worthstead.machine.machine.Machine": [
+        "step(self)", "run_on(self, *, most=1000000)", "text_of(self, name)", "frozen(self)", "thawed(code, text)",
+        "twin(self)",
+    ],
+    "worthstead.desk.kept.KeptFit": [
+        "put(self, row)", "drop(self, number)", "bring(self, term)", "take(self, term)", "pledge(self, weights)",
+        "release(self, index)", "undo(self, *, many=1)", "redo(self, *, many=1)", "twin(self)",
+    ],
+    "worthstead.desk.desk.Desk": [
+        "lay(self, name, thing)", "order(self, name, data, formula)", "lift(self, name)", "thing(self, name)",
+        "undo(self, *, many=1)", "redo(self, *, many=1)", "twin(self)",
+    ],
 }
 CONSTANTS = {
     "worthstead.exact.ratios": {"MAX_FIGURES": 60, "MAX_DIGITS": 2000},
@@ -122,6 +172,8 @@ CONSTANTS = {
     "worthstead.models.codings": {"CODINGS": ("first", "last", "sum", "steps")},
     "worthstead.models.models": {"MAX_KEPT": 64, "MAX_COLUMNS": 24, "MAX_FIGURES": 6},
     "worthstead.fits.strata": {"MAX_BLOCKS": 6},
+    "worthstead.trials.relabelings": {"MAX_TRIAL_ROWS": 40, "MAX_LABELS": 4, "MAX_BLOCKS": 8, "MAX_SUMS": 5000},
+    "worthstead.code.blocks": {"MAX_BLOCKS": 2000, "MAX_CODE_ROWS": 20000},
 }
 
 

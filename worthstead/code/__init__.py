@@ -1,0 +1,1 @@
+"""Codes: programs as rows in blocks."""

@@ -1,0 +1,1 @@
+"""Fits that are kept up to date, and desks of tables, formulas, plans and fits."""

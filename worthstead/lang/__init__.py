@@ -1,0 +1,1 @@
+"""The language: programs as trees and texts, and what they do."""

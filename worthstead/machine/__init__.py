@@ -1,0 +1,1 @@
+"""The machine that does codes row by row."""

@@ -1,0 +1,1 @@
+"""Trials: what relabelings of rows tell of a labelling."""
