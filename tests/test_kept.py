@@ -423,7 +423,7 @@ class KeptTest(Case):
         one, b = (), (("a", 2),)
         for value in wrong_values() + [
             {}, {one: r(0)}, {one: 1}, {one: None}, {(("a", 0),): r(1)}, {(("a", 3),): r(1)}, {"a": r(1)}, {(("a", None),): r(1)}, {one: r(1), "z": r(1)},
-            [(one, r(1))], {one: r(1), b: r(0)}, {(("b", 1),): r(1)}, {("a", 1): r(1)}, {0: r(1)}, {None: r(1)},
+            [(one, r(1))], {one: r(1), b: r(0)}, {(("b", 1),): r(1)}, {("a", 1): r(1)}, {(("a", True),): r(1)}, {0: r(1)}, {None: r(1)},
         ]:
             self.raises(InvalidOperation, kept.pledge, value)
         self.refused(("free",), kept.pledge, {b: r(1)})

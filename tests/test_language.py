@@ -282,6 +282,39 @@ class LanguageTest(unittest.TestCase):
                 self.assertRegex(node.attr, r"^_?[a-z][a-z_]*$", spot)
         self.assertFalse(properties & stored)
 
+    def test_names_of_methods_and_attributes(self):
+        methods, properties, attributes = set(), set(), set()
+        for _, node in self.each(ast.ClassDef):
+            for row in node.body:
+                if isinstance(row, ast.FunctionDef):
+                    (properties if [one for one in row.decorator_list if one.id == "property"] else methods).add(row.name)
+        for _, node in self.each(ast.Attribute):
+            if isinstance(node.ctx, ast.Store):
+                attributes.add(node.attr)
+        self.assertFalse(methods & properties)
+        self.assertFalse(methods & attributes)
+        self.assertFalse(properties & attributes)
+
+    def test_barred_names(self):
+        barred = re.compile(
+            r"(_wall|_pe_|_dcw_|_enum_|_cm_|_twin_re_|_lay_|_law_|_stub_|_sre|_WallAttr)"
+            r"|(_cold|_tuplegetter|_outside|_record|_written_out|_member_names)[0-9_]*$"
+        )
+        for spot, node in self.each(ast.Name, ast.Attribute, ast.FunctionDef, ast.ClassDef, ast.arg, ast.keyword):
+            for part in ("id", "attr", "name", "arg"):
+                self.assertFalse(barred.match(getattr(node, part, None) or ""), spot)
+
+    def test_plain_values_at_module_level(self):
+        for name, tree in self.trees.items():
+            functions = {node.name for node in tree.body if isinstance(node, ast.FunctionDef)}
+            for node in tree.body:
+                if isinstance(node, ast.Assign):
+                    for row in ast.walk(node.value):
+                        self.assertTrue(not isinstance(row, ast.Name) or row.id in functions, f"{name}:{node.lineno}")
+                        if isinstance(row, (ast.List, ast.Tuple, ast.Dict)):
+                            inner = [one for one in ast.walk(row) if one is not row and isinstance(one, (ast.List, ast.Dict))]
+                            self.assertFalse(inner, f"{name}:{node.lineno}")
+
     def test_length_methods(self):
         for spot, node in self.each(ast.FunctionDef):
             if node.name == "__len__":

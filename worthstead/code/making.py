@@ -17,7 +17,7 @@ def compiled(program):
     wanted.want("program", None, (), tuple(names_put(program)), "")
     blocks = []
     # While a block is made, further ones come to be wanted behind those that are.
-    while len(blocks) < wanted.many():
+    while len(blocks) < wanted.how_many():
         kind, tree, params, slots, text = wanted.at(len(blocks))
         maker = Maker(wanted, slots)
         if kind == "program":
@@ -34,7 +34,7 @@ class Wanted:
     def __init__(self):
         self._makings = []
 
-    def many(self):
+    def how_many(self):
         """How many blocks are wanted up to now."""
         return len(self._makings)
 
@@ -55,7 +55,7 @@ class Wanted:
         """Want the block of the body of a function, and behind it those of the defaults."""
         _, params, inner = tree
         slots = slots_of_body(params, inner)
-        index = self.many()
+        index = self.how_many()
         pairs = []
         for name, default in params:
             following = index + 1 + len([other for _, other in pairs if other is not None])

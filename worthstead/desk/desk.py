@@ -26,28 +26,28 @@ class Desk:
 
     def __init__(self):
         # The present things are dicts from names to pairs of a kind and the thing, that of a fit being two names.
-        self._record = Steps({})
+        self._history = Steps({})
 
     @property
     def names(self):
         """The names, ascending."""
-        return tuple(sorted(list(self._record.now)))
+        return tuple(sorted(list(self._history.now)))
 
     def lay(self, name, thing):
         """Lay a table, a formula or a plan under a name, perhaps in the place of an elder one."""
         check_step_name(name)
-        things = self._record.now
+        things = self._history.now
         kind = kind_of_laid(thing)
         if kind is None or (name in things and things[name][0] != kind):
             raise InvalidOperation("this cannot be laid under the name")
         changed = things_with(things, name, (kind, thing))
         check_fits(changed, name)
-        self._record.take(changed)
+        self._history.take(changed)
 
     def order(self, name, data, formula):
         """Order a fit of what two names have."""
         check_step_name(name)
-        things = self._record.now
+        things = self._history.now
         if name in things:
             raise InvalidOperation("the name has something")
         if not is_of_kind(things, data, TABLE):
@@ -55,23 +55,23 @@ class Desk:
         if not is_of_kind(things, formula, FORMULA):
             raise UnknownName(formula)
         made_fit(things, (data, formula))
-        self._record.take(things_with(things, name, (FIT, (data, formula))))
+        self._history.take(things_with(things, name, (FIT, (data, formula))))
 
     def lift(self, name):
         """Take away what has a name."""
         check_step_name(name)
-        things = self._record.now
+        things = self._history.now
         if name not in things:
             raise UnknownName(name)
         needing = fits_of(things, name)
         if needing:
             raise Refused(("used", needing[0]))
-        self._record.take({other: things[other] for other in things if other != name})
+        self._history.take({other: things[other] for other in things if other != name})
 
     def thing(self, name):
         """What has a name."""
         check_step_name(name)
-        things = self._record.now
+        things = self._history.now
         if name not in things:
             raise UnknownName(name)
         kind, held = things[name]
@@ -79,28 +79,28 @@ class Desk:
 
     def undo(self, *, many=1):
         """Take back the last steps, and return how many can be taken back then."""
-        self._record.take_back(many)
-        return len(self._record.past)
+        self._history.take_back(many)
+        return len(self._history.past)
 
     def redo(self, *, many=1):
         """Do the last steps again that were taken back, and return how many can be taken back then."""
-        self._record.take_again(many)
-        return len(self._record.past)
+        self._history.take_again(many)
+        return len(self._history.past)
 
     def twin(self):
         """An equal desk with the same steps that goes on by itself."""
         made = Desk()
-        made._record = self._record.copied()
+        made._history = self._history.copied()
         return made
 
     def __contains__(self, x):
-        return isinstance(x, str) and x in self._record.now
+        return isinstance(x, str) and x in self._history.now
 
     def __len__(self):
-        return len(self._record.now)
+        return len(self._history.now)
 
     def __eq__(self, other):
-        return isinstance(other, Desk) and self._record.now == other._record.now
+        return isinstance(other, Desk) and self._history.now == other._history.now
 
 
 def kind_of_laid(value):

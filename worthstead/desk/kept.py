@@ -22,7 +22,7 @@ class KeptFit:
             raise InvalidFormula("the formula has no response")
         fit = Fit(Model(table, formula, codings=codings))
         self._codings = {} if codings is None else {name: codings[name] for name in sorted(list(codings))}
-        self._record = Steps((tuple(range(table.total)), fit, ()))
+        self._history = Steps((tuple(range(table.total)), fit, ()))
         # Numbers are never given twice, so what is taken back does not lower this.
         self._unused = table.total
         self._elder = fit
@@ -30,12 +30,12 @@ class KeptFit:
     @property
     def table(self):
         """The table of the rows."""
-        return fit_of(self._record).model.table
+        return fit_of(self._history).model.table
 
     @property
     def formula(self):
         """The formula."""
-        return fit_of(self._record).model.formula
+        return fit_of(self._history).model.formula
 
     @property
     def codings(self):
@@ -45,32 +45,32 @@ class KeptFit:
     @property
     def model(self):
         """The model."""
-        return fit_of(self._record).model
+        return fit_of(self._history).model
 
     @property
     def fit(self):
         """The fit."""
-        return fit_of(self._record)
+        return fit_of(self._history)
 
     @property
     def numbers(self):
         """The numbers of the rows, ascending."""
-        return numbers_of(self._record)
+        return numbers_of(self._history)
 
     @property
     def pledges(self):
         """The tuple of the pledges."""
-        return tuple([sorted_pledge(weights) for weights in pledges_of(self._record)])
+        return tuple([sorted_pledge(weights) for weights in pledges_of(self._history)])
 
     @property
     def changes(self):
         """The columns whose weights the last call changed, each with the elder and the new weight."""
-        return changes_between(self._elder, fit_of(self._record))
+        return changes_between(self._elder, fit_of(self._history))
 
     @property
     def steps(self):
         """How many steps can be taken back."""
-        return len(self._record.past)
+        return len(self._history.past)
 
     def put(self, row):
         """Put in a further row, and return its number."""
@@ -111,13 +111,13 @@ class KeptFit:
         if not is_pledge(weights, self.model):
             raise InvalidOperation("this is no pledge by columns of the model")
         check_new(weights, self.model)
-        pledges = pledges_of(self._record)
+        pledges = pledges_of(self._history)
         self.step_to(self.numbers, self.fit, pledges + (sorted_pledge(weights),))
         return len(pledges)
 
     def release(self, index):
         """Release a pledge."""
-        pledges = pledges_of(self._record)
+        pledges = pledges_of(self._history)
         if not is_between(index, 0, len(pledges) - 1):
             raise InvalidNumber(index)
         self.step_to(self.numbers, self.fit, pledges[:index] + pledges[index + 1:])
@@ -125,27 +125,27 @@ class KeptFit:
     def undo(self, *, many=1):
         """Take back the last steps, and return how many can be taken back then."""
         elder = self.fit
-        self._record.take_back(many)
+        self._history.take_back(many)
         self.note_elder(elder, many)
         return self.steps
 
     def redo(self, *, many=1):
         """Do the last steps again that were taken back, and return how many can be taken back then."""
         elder = self.fit
-        self._record.take_again(many)
+        self._history.take_again(many)
         self.note_elder(elder, many)
         return self.steps
 
     def twin(self):
         """An equal kept fit with the same steps that goes on by itself."""
         made = KeptFit(self.table, self.formula, codings=self._codings)
-        made._record = self._record.copied()
+        made._history = self._history.copied()
         made._unused = self._unused
         made._elder = self._elder
         return made
 
     def __len__(self):
-        return len(numbers_of(self._record))
+        return len(numbers_of(self._history))
 
     def __eq__(self, other):
         return (
@@ -154,7 +154,7 @@ class KeptFit:
         )
 
     def __str__(self):
-        return f"kept fit of {len(numbers_of(self._record))} rows, {len(fit_of(self._record).model.names)} columns"
+        return f"kept fit of {len(numbers_of(self._history))} rows, {len(fit_of(self._history).model.names)} columns"
 
     def check_term(self, term):
         """Raise an error unless the value is a term of columns other than the response."""
@@ -174,14 +174,14 @@ class KeptFit:
     def change_fit(self, table, formula, numbers):
         """Take the step to another table and formula, if their fit can be made and all pledges are kept."""
         fit = Fit(Model(table, formula, codings=self._codings))
-        pledges = pledges_of(self._record)
+        pledges = pledges_of(self._history)
         check_all(pledges, fit.model)
         self.step_to(numbers, fit, pledges)
 
     def step_to(self, numbers, fit, pledges):
         """Take a step."""
         self._elder = self.fit
-        self._record.take((numbers, fit, pledges))
+        self._history.take((numbers, fit, pledges))
 
     def note_elder(self, fit, many):
         """Note what the fit was ahead of a call that changed something."""
@@ -189,19 +189,19 @@ class KeptFit:
             self._elder = fit
 
 
-def numbers_of(record):
+def numbers_of(history):
     """The numbers of the rows."""
-    return record.now[0]
+    return history.now[0]
 
 
-def fit_of(record):
+def fit_of(history):
     """The present fit."""
-    return record.now[1]
+    return history.now[1]
 
 
-def pledges_of(record):
+def pledges_of(history):
     """The present pledges."""
-    return record.now[2]
+    return history.now[2]
 
 
 def is_row_of(value, table):

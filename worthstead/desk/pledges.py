@@ -9,7 +9,13 @@ def is_pledge(value, model):
     """Whether the value is a dict from one or more names of columns of a model to ratios other than 0."""
     if not isinstance(value, dict) or not value:
         return False
-    return all([name in model.names and is_ratio(value[name]) and bool(value[name]) for name in value])
+    names = model.names
+    return all([is_column(name, names) and is_ratio(value[name]) and bool(value[name]) for name in value])
+
+
+def is_column(value, names):
+    """Whether the value is one of the names of columns, in which no boolean stands for a level."""
+    return value in names and not any([isinstance(level, bool) for _, level in value])
 
 
 def sorted_pledge(weights):

@@ -1,15 +1,13 @@
 """The levels of trees: which of them can stand where without brackets."""
 
 LOOSEST = 0
-NOT_LEVEL = 3
 EQUAL_LEVEL = 4
-MINUS_LEVEL = 7
 CALL_LEVEL = 8
 TIGHTEST = 9
 # Of the signs between two operands.
 LEVELS = {"|": 1, "&": 2, "==": 4, "<": 4, "<=": 4, "+": 5, "-": 5, "*": 6, "/": 6}
 # Of the signs ahead of one operand.
-AHEAD = {"!": NOT_LEVEL, "-": MINUS_LEVEL}
+AHEAD = {"!": 3, "-": 7}
 LOOSE_WORDS = ("fun", "if", "with")
 
 

@@ -42,8 +42,8 @@ WANTED = {
     "adds": ("fit", "ratio"),
     "alike": ("formula", "formula", "table"),
     "count": ("formula", "table"),
-    "show": (ANY,),
-    "print": (ANY,),
+    "show": ("any",),
+    "print": ("any",),
 }
 
 

@@ -11,7 +11,7 @@ from worthstead.lang.trees import MOST_PARTS, are_within_bounds
 from worthstead.names import is_name
 
 MOST_CHARACTERS = 4000
-PARTING = (";", NEWLINE)
+PARTING = (";", "\n")
 # What ends each part of these trees; nothing in particular ends a last part that has None.
 ENDS = {"if": (")", "else", None), "with": (")", None), "try": (",", ")"), "stop": (")",)}
 TRUTHS = {"TRUE": True, "FALSE": False}

@@ -13,7 +13,7 @@ TRY = "try"
 CATCH = "catch"
 RECKON = "reckon"
 # Those of them that are open.
-OPEN_ROLES = (CALL, ASK, WITH, TRY)
+OPEN_ROLES = ("call", "ask", "with", "try")
 
 
 class Place:

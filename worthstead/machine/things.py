@@ -62,7 +62,8 @@ def value_line(value, numbers):
     if kind == "plan":
         return f"{kind} {plan_text(value)}"
     if kind in ("model", "fit"):
-        return f"{kind} {line_of(model_text(value if kind == 'model' else value.model))}"
+        text = model_text(value if kind == "model" else value.model)
+        return f"{kind} {line_of(text)}"
     return f"{kind} {line_of(str(value))}"
 
 
