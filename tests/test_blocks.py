@@ -131,6 +131,7 @@ class SideBySideTest(Case):
 
     def test_errors_in_order(self):
         self.all_rejected(InvalidPlan, lambda value: side_by_side(value, None))
+        self.all_rejected(InvalidPlan, lambda value: side_by_side(value, HALF))
         self.all_rejected(InvalidPlan, lambda value: side_by_side(HALF, value))
         three = full(3, 1, "x")
         self.raises(InvalidPlan, side_by_side, HALF, three)
@@ -244,6 +245,8 @@ class BlockedTest(Case):
         plan = Plan(7, tuple("abcdef"), tuple((word, 0) for word in ones_of(6)[:4]))
         self.assertEqual(len(Blocked(plan, (ones_of(6)[4],)).lost()), 2401)
         self.too_many(4096, Blocked(plan, ones_of(6)[4:]).lost)
+        five = Plan(5, tuple("abcdef"), tuple((word, 0) for word in ones_of(6)[:5]))
+        self.assertEqual(len(Blocked(five, (ones_of(6)[5],)).lost()), 3125)
         near = Plan(5, tuple("abcdef"), tuple((word, 0) for word in ones_of(6)[:4]))
         self.assertEqual(len(Blocked(near, (ones_of(6)[4],)).lost()), 625)
         self.assertEqual(len(Blocked(near, ones_of(6)[4:]).lost()), 3750)

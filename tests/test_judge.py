@@ -139,6 +139,11 @@ class SoundTest(Case):
         self.unsound(program_of(("function", 1), END), body_of((("x", None), ("x", None)), ("x", "x")))
         self.unsound(program_of(("function", 1), END), body_of((("x", None), ("x", None)), ("x",)))
 
+    def test_params_of_others(self):
+        for kind, rows in (("late", (("late", 1), END)), ("with", (NONE, ("with", 1), END))):
+            self.unsound(program_of(*rows), Block(kind, (("x", None),), (), (NONE, END)))
+        self.unsound(Block("program", (("x", None),), ("x",), (NONE, END)))
+
     def test_statements(self):
         self.sound(program_of(("statement", 0), NONE, ("drop",), ("statement", 1), ("statement", 2), NONE, END))
         for rows in (

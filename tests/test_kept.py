@@ -480,6 +480,7 @@ class KeptTest(Case):
         self.assertEqual(kept.table, other.table)
         self.assertNotEqual(kept, other)
         self.assertNotEqual(kept_of("y ~ a"), kept_of("y ~ 0 + a"))
+        self.assertNotEqual(kept_of(), kept_of("y ~ a", Table({"a": factor(2, (0, 1)), "y": numbers(1, 4)})))
         self.assertNotEqual(kept_of(a="first"), kept_of())
         for value in wrong_values():
             self.assertFalse(kept == value)

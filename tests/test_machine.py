@@ -26,7 +26,9 @@ TEXTS = (
     'f <- fun(x) { g <- fun() x; try(g(), fun(w, t) print(w + t + text(t))); g() }; n <- 0; f({ n <- n + 1; if (n == 1) stop("once") else print(n) })',
     "f <- fun(x = x) x; try(f(), fun(w, t) w + t); f(3)", "f <- fun(x = y, y = x) x; f()", 'try(try(stop("a"), stop("b")), { print("c"); fun(w, t) w + t })',
     "f <- fun(n) if (n <= 1) 1 else n * f(n - 1); f(5)", "f <- fun(x) f(x); f(1)", 'show(1, b = 2, print("p"))', 'put(' + TABLE + ', "z", { print("q"); "1 2 3" })$z',
-    'f <- fun(x, y) { x <- y; text(y) + show(x) }; f(y = ~q~, 2)'.replace("~q~", '"~0~1"'), "g <- print; try({ g(1); g() }, fun(w, t) { g(w); GONE })",
+    'f <- fun(x, y) { x <- y; text(y) + show(x) }; f(y = ~q~, 2)'.replace("~q~", '"~0~1"'), "f <- fun(x) fun() x; g <- fun(y) f(y + 1); h <- g(5); h() + h()",
+    "f <- fun(x) { x; fun() x }; k <- fun() { z <- 3; fun() z }; h <- f(k()); h()()", f"f <- fun(t) with (t) fun() y; h <- f({TABLE}); h()",
+    'k <- fun(z) fun() z; try(show(k(1), k(2), print("a")), fun(w, t) w)', "g <- print; try({ g(1); g() }, fun(w, t) { g(w); GONE })",
     "x <- (y ~ a*b); f <- fun() x; k <- TRUE; f() == x & k", "f <- fun(a) fun(b) fun(c) text(a) + text(b) + text(c); f(1)(2)(3)",
 )
 
@@ -69,6 +71,8 @@ class MachineTest(Case):
         self.assertEqual(self.places("try(1, 2)"), [(0, 0), (0, 1), (1, 0), (1, 1), (0, 2)])
         self.assertEqual(self.places("show(3)"), [(0, 0), (0, 1), (0, 2), (0, 3), (1, 0), (1, 1), (0, 4)])
         self.assertEqual(self.places("x"), [(0, 0), (0, 1)])
+        # Behind a fault the second block is next; the word and the text have no rows of their own.
+        self.assertEqual(self.places('try(x, fun(w, t) w)'), [(0, 0), (0, 1), (1, 0), (2, 0), (2, 1), (3, 0), (3, 1), (0, 2)])
 
     def test_how_often(self):
         for text in TEXTS:

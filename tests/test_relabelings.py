@@ -310,6 +310,30 @@ class CountsTest(Case):
         trial, values = self.trial_of(*ahead, ("a", (0, 0, 1001)))
         self.assertEqual(len(trial.counts(values, "a")), 3001)
 
+    def test_unlike_ways_to_the_same_pairs(self):
+        # Behind two blocks the label can have two rows by unlike patterns, which do not count twice.
+        from worthstead.trials.counting import choices_by_sums
+        from worthstead.trials.patterns import block_rows, groups_of, pattern_of
+
+        labels, blocks = tuple("bbababaa"), tuple(at // 2 for at in range(8))
+        several = block_rows(blocks)
+        told = (several, groups_of(several, True), [pattern_of(labels, rows, ("a",)) for rows in several])
+        for values, most in (((0,) * 8, 3), ((0, 0, 0, 1, 0, 0, 2, 1), None)):
+            most = self.pairs_behind(labels, blocks, values, ("a",), True)
+            self.assertEqual(sum(choices_by_sums(*told, list(values), most).values()), 4 * 12)
+            self.too_many(most - 1, choices_by_sums, *told, list(values), most - 1)
+        rng = random.Random(1105)
+        for size in (2, 3, 4) * 8:
+            labels = tuple(rng.choice("ab") for _ in range(12 if size == 4 else 9 if size == 3 else 8))
+            blocks = tuple(at // size for at in range(len(labels)))
+            values = [rng.randint(0, 1) for _ in labels]
+            several = block_rows(blocks)
+            told = (several, groups_of(several, True), [pattern_of(labels, rows, ("a",)) for rows in several], values)
+            most = self.pairs_behind(labels, blocks, values, ("a",), True)
+            choices_by_sums(*told, most)
+            if most > 1:
+                self.too_many(most - 1, choices_by_sums, *told, most - 1)
+
     def test_just_5000_for_two_labels(self):
         ahead = [("a", range(0, 5 * by, by)) for by in (1, 5, 25, 125)] + [("a", (0, 625))]
         trial, values = self.trial_of(*ahead, ("b", (1, 2, 3, 4)))

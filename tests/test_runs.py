@@ -319,6 +319,11 @@ class PackageTest(RunsTest):
         self.fault(f"model({table}, (~ y))", "TooMany", "64")
         self.fault(f'put({TABLE}, "x", "1 1 1 1234567")' + "\nmodel(put(" + TABLE + ', "x", "1 1 1 1234567"), (~ x))', "TooMany", "6", 1)
 
+    def test_right_sides_are_0(self):
+        table = 'table("rows 2;factor a l0,l1 l0 l1;factor b l0,l1 l0 l1;")'
+        self.done(f'runs(plan(2, "a b", "11")) == {table}', "TRUE")
+        self.done('runs(plan(3, "a", "2")) == table("rows 1;factor a l0,l1,l2 l0;")', "TRUE")
+
     def test_strings_of_tables(self):
         self.done('table("rows 2;number y 1 2;") == put(table("rows 2;"), "y", "1 2")', "TRUE")
 
@@ -380,6 +385,14 @@ class LimitsTest(RunsTest):
         self.done(within(150, "show({ show(1) })"), "1")
         self.limit(within(150, "try({ 1 }, fun(w, t) 5)"), "depth")
         self.done(within(149, 'try(stop("a"), { show(1); fun(w, t) 1 })'), "1")
+        # Frames that are not open do not count, however many they are.
+        def shown(many):
+            return "; ".join(f"f{at} <- fun() {'1' if at == 0 else f'show(show(f{at - 1}()))'}" for at in range(many)) + f"; f{many - 1}()"
+
+        self.done(shown(119), "1")
+        self.done("f <- fun(n) if (n == 0) 1 else { m <- n - 1; show(show(f({ m }))) }; f(100)", "1")
+        self.limit("f <- fun(n) if (n == 0) 1 else { m <- n - 1; show(show(f({ m }))) }; f(150)", "depth", 150)
+        self.limit("f <- fun(n) if (n == 0) try(1, 2) else { m <- n - 1; show(show(f({ m }))) }; f(149)", "depth", 150)
         # A circle is found ahead of the depth.
         self.fault(within(148, "(fun(x = x) x)()"), "circle", "x", 148)
 

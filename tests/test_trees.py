@@ -165,7 +165,7 @@ class TreesTest(Case):
             (long_number, 0), ("a + " + long_number, 4), ("a == b == c", 7), ("a < b <= c", 6), ("a + !b", 4), ("a == !b", 5), ("-!a", 1),
             ("a + fun(x) x", 4), ("a * if (b) c else d", 4), ("-with (a) b", 1), ("!fun() a", 1), ("a <- b <- c", 7), ("f(a <- b)", 4),
             ("(a <- b)", 3), ("1 <- b", 2), ("f(a = b = c)", 8), ("f(1 = b)", 4), ("f(, a)", 2), ("f(a,)", 4), ("f(a b)", 4), ("fun(1) a", 4),
-            ("fun(x, x) a", 7), ("fun(x = 1, y, x = 2) a", 14), ("fun(x,) a", 6), ("fun x", 4), ("fun(if) a", 4), ("if a", 3), ("if (a, b)", 5),
+            ("fun(x, x) a", 7), ("fun(x = 1, y, x = 2) a", 14), ("fun(x,) a", 6), ("fun(x = 1,) a", 10), ("fun(x = 1 y) a", 10), ("fun x", 4), ("fun(if) a", 4), ("if a", 3), ("if (a, b)", 5),
             ("if (a) b", 8), ("if (a) b c", 9), ("try(a)", 5), ("try(a, b, c)", 8), ("try a", 4), ("stop(a, b)", 6), ("stop()", 5), ("text(1)", 5),
             ("text(a, b)", 6), ("text(in)", 5), ("with (a, b) c", 7), ("{ a )", 4), ("(a }", 3), ("( a; b)", 3), ("}", 0), (")", 0), ("a)", 1),
             ("TRUE <- 1", 5), ("a , b", 2), ("a = b", 2), ("f(TRUE = 1)", 7), ("()", 1), ("a$1", 2), ("a : b", 2), ("a ^ 2", 2), ("a else b", 2),
@@ -291,7 +291,12 @@ class TreesTest(Case):
         for value in (("set", "x", A), ("set", "x", A, B)[:2], [A], (A, None), (("set", "in", A),), (("set", "x", ("set", "y", A)),)):
             self.assertFalse(is_program(value))
             self.raises(InvalidTree, write_program, value)
+        for value in (("foo", "x", A), ("Set", "x", A), ("x", "set", A), (None, "x", A), (("set",), "x", A), ("put", "x", A)):
+            self.assertFalse(is_program((value,)))
+            self.assertFalse(is_expression(("block", (value,))))
         self.assertTrue(is_program((("set", "x", A),)))
+        self.assertTrue(is_expression(("string", "~ !#$%&'()*+,-./09:;<=>?@AZ[\\]^_`az{|}~")))
+        self.assertEqual(read_expression('"~ %_^`"'), ("string", "~ %_^`"))
 
     def test_errors_are_parse_errors(self):
         rng = random.Random(1202)

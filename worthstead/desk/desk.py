@@ -1,14 +1,7 @@
 """Desks: tables, formulas and plans under names, and fits of them."""
 
 from worthstead.desk.steps import Steps, check_step_name
-from worthstead.errors import (
-    InvalidFormula,
-    InvalidModel,
-    InvalidOperation,
-    Refused,
-    TooMany,
-    UnknownName,
-)
+from worthstead.errors import InvalidModel, InvalidOperation, Refused, TooMany, UnknownName
 from worthstead.fits.fits import Fit
 from worthstead.formulas.formulas import Formula
 from worthstead.models.models import Model
@@ -149,8 +142,6 @@ def is_fit_made(things, needed):
     except UnknownName:
         return False
     except InvalidModel:
-        return False
-    except InvalidFormula:
         return False
     except TooMany:
         return False

@@ -219,14 +219,15 @@ class Reader:
     def go_on(self):
         """Read what stands behind a tree."""
         kind, text, _ = self._tokens.peek()
-        if kind == SIGN and text == "(" and self._level >= CALL_LEVEL:
+        # Operators are ended with what stands behind them, so the tree here can be called, and picked from.
+        if kind == SIGN and text == "(":
             self._tokens.begin_brackets("(")
-            self._begun.append(["args", self._tree, [], None])
+            self._begun.append(["call", self._tree, [], None])
             if self._tokens.next_is((")",)):
                 self.end_call()
             else:
                 self.begin_arg()
-        elif kind == SIGN and text == "$" and self._level >= CALL_LEVEL:
+        elif kind == SIGN and text == "$":
             self._tokens.take()
             self.give(("pick", self._tree, self._tokens.take_name(())), CALL_LEVEL)
         elif kind == SIGN and text in LEVELS:
@@ -247,8 +248,8 @@ class Reader:
     def end_call(self):
         """Read the end of the arguments."""
         self._tokens.end_brackets(")")
-        _, called, args, _ = self._begun.pop()
-        self.give(("call", called, tuple(args)), CALL_LEVEL)
+        _, called, given, _ = self._begun.pop()
+        self.give(("call", called, tuple(given)), CALL_LEVEL)
 
     def begin_right(self, sign):
         """Read a sign between two operands."""
@@ -295,7 +296,7 @@ class Reader:
             self.end_statement(begun)
         elif begun[0] == "parts":
             self.end_wordy(begun)
-        elif begun[0] == "args":
+        elif begun[0] == "call":
             self.end_arg(begun)
         elif begun[0] == "default":
             self._begun.pop()

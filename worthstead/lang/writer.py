@@ -38,8 +38,8 @@ def text_of_tree(tree):
         params = [param_text(name, default) for name, default in tree[1]]
         return f"fun({', '.join(params)}) {text_of_tree(tree[2])}"
     if word == "call":
-        args = [param_text(name, arg) for name, arg in tree[2]]
-        return f"{text_at(tree[1], CALL_LEVEL)}({', '.join(args)})"
+        given = [param_text(name, arg) for name, arg in tree[2]]
+        return f"{text_at(tree[1], CALL_LEVEL)}({', '.join(given)})"
     if word == "pick":
         return f"{text_at(tree[1], CALL_LEVEL)}${tree[2]}"
     if word in ("if", "with", "try", "stop"):

@@ -69,8 +69,7 @@ class Relabelings:
         """Whether the value is one of the relabelings."""
         if not isinstance(value, tuple) or len(value) != len(self._labels):
             return False
-        if not all([isinstance(label, str) and label in self._kinds for label in value]):
-            return False
+        # A label that is none of these is in no pattern, and lacks in one.
         patterns = [pattern_of(value, rows, self._kinds) for rows in self._several]
         return all([
             sorted([patterns[index] for index in group]) == sorted([self._patterns[index] for index in group])
