@@ -166,6 +166,9 @@ class FrozenTest(Case):
         self.assertEqual(machine.frozen(), text)
         made = Machine.thawed(machine.code, text)
         self.assertEqual(state(made), state(machine))
+        # Equal states have equal texts.
+        self.assertEqual(made.frozen(), text)
+        self.assertEqual(machine.twin().frozen(), text)
         return made
 
     def test_ahead_of_each_row(self):
