@@ -8,7 +8,7 @@ from tests.support import Case, r, wrong_values
 from worthstead.code.blocks import Block, Code
 from worthstead.code.judge import depths, is_sound
 from worthstead.code.making import compiled
-from worthstead.errors import InvalidCode, InvalidNumber, InvalidTree
+from worthstead.errors import InvalidCode, InvalidTree
 from worthstead.formulas.reader import read_formula
 from worthstead.lang.reader import read_program
 from worthstead.lang.trees import is_program

@@ -397,7 +397,6 @@ class LimitsTest(RunsTest):
         self.fault(within(148, "(fun(x = x) x)()"), "circle", "x", 148)
 
     def test_200_lines(self):
-        lines = "p <- fun(n) if (n == 0) 0 else { print(n); m <- n - 1; p({ m }) }; "
         each = "; ".join(["print(1)"] * 100)
         self.done(f"{each}; {each}", "1", ("1",) * 200, 4000)
         end, printed, steps = self.outcome(f"{each}; {each}; print(2)")
@@ -407,7 +406,6 @@ class LimitsTest(RunsTest):
         # A text that is too long becomes no line.
         long = "fun() { " + "; ".join(["aaaaaaaa"] * 100) + " }"
         self.fault(f"{each}; {each}; print({long})", "great", "", 200, 4020)
-        self.assertIsNotNone(lines)
 
     def test_which_comes_first(self):
         each = "; ".join(["print(1)"] * 100)
